@@ -1,0 +1,1 @@
+"""What holds where, along all ways and along some."""
